@@ -2,7 +2,7 @@
 
 from fleetcatch.constants import KINDS, MOST_SHIPS, UNIT_LIMIT
 from fleetcatch.gift import Gift
-from fleetcatch.octets import check_is_right, low_first, number_at, with_check
+from fleetcatch.octets import all_low_first, check_is_right, number_at, numbers_at, with_check
 
 # The kind that stands in the bytes where there is no gift.
 NO_GIFT = 255
@@ -33,11 +33,8 @@ def message_octets(message):
     if gift is None:
         gift = Gift(message.receiver, NO_GIFT, 0, 0)
     octets = [message.sender, message.receiver, gift.kind, 0]
-    octets.extend(low_first(message.took, 4))
-    octets.extend(low_first(gift.number, 4))
-    octets.extend(low_first(gift.units, 4))
-    for units in message.caught:
-        octets.extend(low_first(units, 8))
+    octets.extend(all_low_first([message.took, gift.number, gift.units], 4))
+    octets.extend(all_low_first(message.caught, 8))
     return with_check(octets)
 
 
@@ -54,7 +51,7 @@ def read_gift(octets):
 
 
 def read_caught(octets):
-    return [number_at(octets, CAUGHT_AT + 8 * kind, 8) for kind in range(KINDS)]
+    return numbers_at(octets, CAUGHT_AT, KINDS, 8)
 
 
 def message_is_right(octets):

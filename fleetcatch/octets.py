@@ -8,11 +8,22 @@ def low_first(number, size):
     return [(number >> (8 * place)) & 255 for place in range(size)]
 
 
+def all_low_first(numbers, size):
+    octets = []
+    for number in numbers:
+        octets.extend(low_first(number, size))
+    return octets
+
+
 def number_at(octets, at, size):
     number = 0
     for place in range(size):
         number = number | (octets[at + place] << (8 * place))
     return number
+
+
+def numbers_at(octets, at, count, size):
+    return [number_at(octets, at + size * place, size) for place in range(count)]
 
 
 def crc32c(octets):

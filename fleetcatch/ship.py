@@ -17,7 +17,7 @@ class Ship:
         self.right = list(right)
         self.caught = [0] * KINDS
         self.out = []
-        # Sixteen of each, however many ships there are: what's kept has room for all of them.
+        # Sixteen of each, however many ships there are: what's kept has all of them, and a loaded ship keeps them so.
         self.given = [0] * MOST_SHIPS
         self.taken = [0] * MOST_SHIPS
         self.known = [[0] * KINDS for ship in range(MOST_SHIPS)]
@@ -94,3 +94,21 @@ class Ship:
         self.right[gift.kind] = self.right[gift.kind] + gift.units
         self.taken[ship] = self.taken[ship] + 1
         self.saved = False
+
+    def of(self, ship):
+        if ship >= self.ships:
+            return [NOT_VALID]
+        return [0] + self.known_of(ship)
+
+    # What stands in known for this ship itself tells nothing.
+    def known_of(self, ship):
+        if ship == self.me:
+            return self.caught
+        return self.known[ship]
+
+    def state(self, kind):
+        if kind >= KINDS:
+            return [NOT_VALID]
+        units_out = sum([gift.units for gift in self.out if gift.kind == kind])
+        fleet_caught = sum([self.known_of(ship)[kind] for ship in range(self.ships)])
+        return [0, self.right[kind], self.caught[kind], units_out, fleet_caught]

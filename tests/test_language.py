@@ -1,4 +1,7 @@
-"""The package keeps to its part of Python: the rules that can be seen in the files one by one."""
+"""The package keeps to its part of Python: the rules that can be seen in its files.
+
+Where a rule allows something under conditions that the package has no need of, the tests allow none of it.
+"""
 
 import ast
 import builtins
@@ -29,6 +32,12 @@ METHODS = set(
 TAKEN_NAMES = {name for kind in (str, int, list, dict, set, bytes) for name in dir(kind)}
 VALUES_TOO = {"count", "index", "title", "find", "get", "join", "lower", "upper", "split", "strip", "copy", "add"}
 UNUSED_NAMES = set("register mro elements open input version_info with_traceback add_note format format_map".split())
+UNUSED_AS_NAMES = set(
+    """attrgetter breakpoint builtins compile copyright credits delattr dir eval exec exit gc getattr globals hasattr
+    help id importlib license locals methodcaller os quit setattr super type vars sys __name__""".split()
+)
+CHANGES = {"append", "clear", "extend", "insert", "pop", "remove", "reverse", "setdefault", "update"}
+WALKED_AT_ONCE = {"zip", "enumerate", "reversed", "range", "items", "keys", "values"}
 UNUSED_WORDS = re.compile(
     r"\b(type|typing|typing_extensions|enum|Enum|IntEnum|StrEnum|Flag|IntFlag|Generic|Protocol|ABC|ABCMeta|namedtuple"
     r"|NamedTuple|TypedDict|TYPE_CHECKING|abstractmethod)\b|dataclass|overload|contextmanager"
@@ -55,6 +64,8 @@ def name_faults(node):
             yield "L12", f"the name {name}"
         if name in dir(builtins) or name in UNUSED_NAMES:
             yield "L15", f"the name {name} is Python's own"
+        if name in UNUSED_AS_NAMES:
+            yield "L17", f"the name {name}"
     if isinstance(node, ast.Attribute):
         if not PLAIN_NAME.match(node.attr) or node.attr in UNUSED_NAMES:
             yield "L17", f"the name {node.attr}"
@@ -102,6 +113,79 @@ def expression_faults(node):
             yield "L20", "is between values"
 
 
+def unneeded_faults(node):
+    """What the rules allow in some places, and the package has in none."""
+    if isinstance(node, ast.Lambda):
+        yield "L13", "a lambda"
+    if isinstance(node, (ast.Try, ast.Raise)):
+        yield "L19", "an error"
+    if isinstance(node, ast.arg) and node.annotation or isinstance(node, ast.FunctionDef) and node.returns:
+        yield "L21", "an annotation"
+    if isinstance(node, ast.keyword):
+        yield "L22", f"the keyword {node.arg}"
+    if isinstance(node, ast.Set) or isinstance(node, ast.Name) and node.id in ("set", "frozenset"):
+        yield "L24", "a set"
+    if isinstance(node, ast.FunctionDef) and node.name == "__init__":
+        if any(isinstance(part, ast.Return) for part in ast.walk(node)):
+            yield "L28", "a return of __init__"
+
+
+def called_name(node):
+    if isinstance(node, ast.Call):
+        return getattr(node.func, "id", getattr(node.func, "attr", None))
+    return None
+
+
+def use_faults(tree):
+    """Python's own functions and the package's classes are called; what is walked at once is walked on the spot."""
+    classes = {node.name for node in tree.body if isinstance(node, ast.ClassDef)}
+    imports = {alias.asname or alias.name for node in tree.body if isinstance(node, ast.ImportFrom) for alias in node.names}
+    classes |= {name for name in imports if name[0].isupper() and not name.isupper()}
+    called = {id(node.func) for node in ast.walk(tree) if isinstance(node, ast.Call)}
+    walked = {id(node.iter) for node in ast.walk(tree) if isinstance(node, (ast.For, ast.comprehension))}
+    for node in ast.walk(tree):
+        if isinstance(node, ast.Name) and isinstance(node.ctx, ast.Load) and id(node) not in called:
+            if node.id in OWN_NAMES:
+                yield "L22", f"{node.id} as a value"
+            if node.id in classes:
+                yield "L18", f"the class {node.id} as a value"
+        if called_name(node) in WALKED_AT_ONCE and id(node) not in walked:
+            yield "L23", f"{called_name(node)} is kept"
+        if isinstance(node, (ast.arg, ast.Name)) and set(bound_names(node)) & (classes | imports):
+            yield "L15", f"the local {bound_names(node)[0]}"
+
+
+def changed_in_walk_faults(tree):
+    """A loop changes nothing of what it walks."""
+    for loop in ast.walk(tree):
+        if isinstance(loop, ast.For):
+            walked = {ast.unparse(node) for node in ast.walk(loop.iter) if isinstance(node, (ast.Name, ast.Attribute))}
+            for node in [part for row in loop.body for part in ast.walk(row)]:
+                if isinstance(node, ast.Call) and isinstance(node.func, ast.Attribute):
+                    if node.func.attr in CHANGES and ast.unparse(node.func.value) in walked:
+                        yield "L23", f"{ast.unparse(node)} in its walk"
+                if isinstance(node, ast.Subscript) and isinstance(node.ctx, ast.Store):
+                    if ast.unparse(node.value) in walked:
+                        yield "L23", f"{ast.unparse(node)} in its walk"
+
+
+def drawn_files(text):
+    """The package's files that a file draws from."""
+    return {
+        node.module.partition(".")[2]
+        for node in ast.walk(ast.parse(text))
+        if isinstance(node, ast.ImportFrom) and node.module
+    }
+
+
+def files_in_circles(texts):
+    """Of texts by their file's name: the files that draw from themselves, in whatever many steps."""
+    drawn = {name: drawn_files(text) for name, text in texts.items()}
+    for step in texts:
+        drawn = {name: files.union(*[drawn.get(file, set()) for file in files]) for name, files in drawn.items()}
+    return [name for name, files in drawn.items() if name in files]
+
+
 def top_faults(tree):
     seen = []
     for place, node in enumerate(tree.body):
@@ -146,7 +230,8 @@ def sign_faults(text):
 def file_faults(text, own_methods=()):
     """The rules that a file's text breaks, each with what breaks it."""
     tree = ast.parse(text)
-    faults = list(sign_faults(text)) + list(top_faults(tree)) + list(method_faults(tree, own_methods))
+    faults = [*sign_faults(text), *top_faults(tree), *method_faults(tree, own_methods)]
+    faults += [*use_faults(tree), *changed_in_walk_faults(tree)]
     docstring = tree.body[0] if tree.body and ast.get_docstring(tree) else None
     for node in ast.walk(tree):
         sort = node.__class__.__name__
@@ -155,7 +240,7 @@ def file_faults(text, own_methods=()):
         if isinstance(node, ast.ImportFrom) and node not in tree.body:
             faults.append(("L2", "an import within"))
         if node is not docstring:
-            faults += [*name_faults(node), *statement_faults(node), *expression_faults(node)]
+            faults += [*name_faults(node), *statement_faults(node), *expression_faults(node), *unneeded_faults(node)]
     return faults
 
 
@@ -196,6 +281,24 @@ class Language(unittest.TestCase):
         }
         self.assertEqual(values & package_methods(texts), set())
 
+    def test_no_two_files_draw_from_one_another(self):
+        texts = {path.stem: path.read_text(encoding="utf-8") for path in sorted(PACKAGE.rglob("*.py"))}
+        self.assertEqual(files_in_circles(texts), [])
+        rows = {"a": "from fleetcatch.b import x\n", "b": "from fleetcatch.c import x\n", "c": "x = 1\n"}
+        self.assertEqual(files_in_circles(rows), [])
+        self.assertEqual(files_in_circles({**rows, "c": "from fleetcatch.a import x\n"}), ["a", "b", "c"])
+
+    def test_each_name_is_drawn_from_the_file_that_defines_it(self):
+        texts = {path.stem: path.read_text(encoding="utf-8") for path in sorted(PACKAGE.rglob("*.py"))}
+        for name, text in texts.items():
+            for node in ast.walk(ast.parse(text)):
+                if isinstance(node, ast.ImportFrom):
+                    tops = ast.parse(texts[node.module.partition(".")[2]]).body
+                    defined = {part.name for part in tops if isinstance(part, (ast.FunctionDef, ast.ClassDef))}
+                    defined |= {part.targets[0].id for part in tops if isinstance(part, ast.Assign)}
+                    with self.subTest(file=name, drawn=node.module):
+                        self.assertEqual({alias.name for alias in node.names} - defined, set())
+
     def test_faults_are_found(self):
         for rule, text in (
             ("L3", "import sys\n"),
@@ -213,6 +316,21 @@ class Language(unittest.TestCase):
             ("L14", "x = 1\t\n"),
             ("L15", "x = 1\nx = 2\n"),
             ("L17", "# of this type\nx = 1\n"),
+            ("L13", "def f(xs):\n    return sorted(xs, key=lambda x: x)\n"),
+            ("L15", "class C:\n    pass\n\n\ndef f(C):\n    return C\n"),
+            ("L15", "from fleetcatch.ship import can_start\n\n\ndef f():\n    can_start = 1\n    return can_start\n"),
+            ("L17", "def f(sys):\n    return sys\n"),
+            ("L18", "from fleetcatch.ship import Ship\n\n\ndef f():\n    return [Ship]\n"),
+            ("L19", "def f(x):\n    try:\n        return int(x)\n    except ValueError:\n        return 0\n"),
+            ("L21", "def f(x: int):\n    return x\n"),
+            ("L21", "def f(x) -> int:\n    return x\n"),
+            ("L22", "def f(xs):\n    return sorted(xs, reverse=True)\n"),
+            ("L22", "def f():\n    return len\n"),
+            ("L23", "def f(xs):\n    pairs = zip(xs, xs)\n    return pairs\n"),
+            ("L23", "def f(xs):\n    for x in xs:\n        xs.append(x)\n"),
+            ("L23", "def f(xs):\n    for k, x in enumerate(xs):\n        xs[k] = x\n"),
+            ("L24", "def f(xs):\n    return set(xs)\n"),
+            ("L28", "class C:\n    def __init__(self):\n        return None\n"),
             ("L20", "def f(x, y):\n    return x is y\n"),
             ("L25", "def f(x):\n    return x.sort()\n"),
             ("L26", "def f(x):\n    x.pop = 1\n"),
